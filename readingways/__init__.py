@@ -1,0 +1,1 @@
+"""Ways to write a reading: the calls are answered by readingways.readings.answers."""
