@@ -16,6 +16,11 @@ def new_joins():
     return Joins(MOST_COST, {})
 
 
+def cost_of_join(joins, right, left):
+    """What it costs that a left sort stands behind a right sort."""
+    return joins.costs.get((right, left), 0)
+
+
 def numbers_of(line, count):
     """The numbers of the line; None if it is no line of just so many numbers."""
     if not is_ended(line):

@@ -20,6 +20,8 @@ OWN_NAMES = set("""len range enumerate zip min max sum abs sorted reversed int s
 OWN_METHODS = set("""append clear copy count endswith extend find get index insert isalnum isalpha isdigit islower
     isspace isupper items join keys ljust lower lstrip partition pop remove replace reverse rfind rjust rpartition rsplit
     rstrip setdefault split splitlines startswith strip update upper values zfill bit_length""".split())
+WALKED = ("zip", "enumerate", "reversed", "range", "items", "keys", "values")
+CHANGING = ("append", "clear", "extend", "insert", "pop", "remove", "reverse", "setdefault", "update")
 UNUSED_WORDS = re.compile(r"\b(type|typing|typing_extensions|enum|Enum|IntEnum|StrEnum|Flag|IntFlag|Generic|Protocol|ABC"
                           r"|ABCMeta|namedtuple|NamedTuple|TypedDict|TYPE_CHECKING|abstractmethod)\b"
                           r"|dataclass|overload|contextmanager")
@@ -36,6 +38,24 @@ def trees():
 def nodes(kind):
     """Each node of this kind, with the file's name."""
     return [(path.name, node) for path, tree in trees().items() for node in ast.walk(tree) if isinstance(node, kind)]
+
+
+def bound_at_top(tree):
+    """The names that a file gives a value at its top, imports aside."""
+    bound = [node.name for node in tree.body if isinstance(node, (ast.FunctionDef, ast.ClassDef))]
+    return bound + [node.targets[0].id for node in tree.body if isinstance(node, ast.Assign)]
+
+
+def imported(tree):
+    return [part.name for node in tree.body if isinstance(node, ast.ImportFrom) for part in node.names]
+
+
+def is_stored(node):
+    return isinstance(getattr(node, "ctx", None), ast.Store)
+
+
+def called_name(call):
+    return call.func.id if isinstance(call.func, ast.Name) else call.func.attr
 
 
 class LanguageTest(unittest.TestCase):
@@ -104,6 +124,90 @@ class LanguageTest(unittest.TestCase):
                 if isinstance(node, ast.Assign):
                     within = [part for part in ast.walk(node.value) if isinstance(part, (ast.List, ast.Dict))]
                     self.assertLessEqual(len(within), 1, (path.name, node.lineno))
+
+    def test_names_are_imported_from_the_file_that_defines_them(self):
+        defined = {f"readingways.{path.stem}": bound_at_top(tree) for path, tree in trees().items()}
+        for name, node in nodes(ast.ImportFrom):
+            for part in node.names:
+                self.assertIsNone(part.asname, (name, node.lineno))
+                self.assertIn(part.name, defined[node.module], (name, node.lineno))
+
+    def test_no_two_files_draw_from_one_another(self):
+        drawn = {f"readingways.{path.stem}": {node.module for node in tree.body if isinstance(node, ast.ImportFrom)}
+                 for path, tree in trees().items()}
+        while drawn:
+            free = [name for name, others in drawn.items() if not others & set(drawn)]
+            self.assertNotEqual(free, [], drawn)
+            drawn = {name: others for name, others in drawn.items() if name not in free}
+
+    def test_each_name_once_at_a_files_top(self):
+        for path, tree in trees().items():
+            bound = bound_at_top(tree) + imported(tree)
+            self.assertEqual(sorted(bound), sorted(set(bound)), path.name)
+
+    def test_locals_are_called_like_no_class_and_no_import(self):
+        for path, tree in trees().items():
+            taken = set(imported(tree)) | {node.name for node in tree.body if isinstance(node, ast.ClassDef)}
+            for function in [node for node in ast.walk(tree) if isinstance(node, ast.FunctionDef)]:
+                for node in ast.walk(function):
+                    local = getattr(node, "arg", None) or (getattr(node, "id", None) if is_stored(node) else None)
+                    self.assertNotIn(local, taken, (path.name, function.name))
+
+    def test_no_name_is_a_method_and_a_value(self):
+        methods = {part.name for name, node in nodes(ast.ClassDef) for part in node.body if isinstance(part, ast.FunctionDef)}
+        values = {node.attr for name, node in nodes(ast.Attribute) if is_stored(node)}
+        self.assertEqual(methods & values, set())
+        of_python = {name for kind in (str, int, list, tuple, dict, set, bytes) for name in dir(kind)}
+        self.assertEqual((methods - {"__init__"} | values) & of_python, set())
+
+    def test_is_stands_beside_none_alone(self):
+        for name, node in nodes(ast.Compare):
+            if any(isinstance(sign, (ast.Is, ast.IsNot)) for sign in node.ops):
+                self.assertIsInstance(node.comparators[0], ast.Constant, (name, node.lineno))
+                self.assertIsNone(node.comparators[0].value, (name, node.lineno))
+
+    def test_only_own_errors_are_taken(self):
+        own = {node.name for name, node in nodes(ast.ClassDef) if node.bases}
+        for name, node in nodes(ast.ExceptHandler):
+            self.assertIn(node.type.id, own, (name, node.lineno))
+
+    def test_no_call_is_left_unwritten(self):
+        self.assertEqual([name for name, node in nodes(ast.Name) if node.id == "NotImplementedError"], [])
+
+    def test_walked_at_once(self):
+        for path, tree in trees().items():
+            walked = [node.iter for node in ast.walk(tree) if isinstance(node, (ast.For, ast.comprehension))]
+            for node in ast.walk(tree):
+                if isinstance(node, ast.Call) and called_name(node) in WALKED and node not in walked:
+                    self.fail((path.name, node.lineno))
+
+    def test_what_a_loop_walks_is_not_changed_in_it(self):
+        for name, loop in nodes(ast.For):
+            walked = {node.id for node in ast.walk(loop.iter) if isinstance(node, ast.Name)}
+            for node in [part for row in loop.body for part in ast.walk(row)]:
+                changed = None
+                if isinstance(node, ast.Subscript) and is_stored(node):
+                    changed = node.value
+                if isinstance(node, ast.Call) and isinstance(node.func, ast.Attribute) and node.func.attr in CHANGING:
+                    changed = node.func.value
+                self.assertNotIn(getattr(changed, "id", None), walked, (name, loop.lineno))
+
+    def test_sets_are_not_used(self):
+        self.assertEqual(nodes(ast.Set), [])
+        self.assertEqual([name for name, node in nodes(ast.Name) if node.id in ("set", "frozenset")], [])
+
+    def test_keywords(self):
+        allowed = {"sorted": ("key", "reverse"), "min": ("key", "default"), "max": ("key", "default"), "sum": ("start",),
+                   "enumerate": ("start",), "zip": ("strict",)}
+        for name, node in nodes(ast.Call):
+            for keyword in node.keywords:
+                self.assertIn(keyword.arg, allowed.get(called_name(node), ()), (name, node.lineno))
+
+    def test_texts_and_powers(self):
+        for name, node in nodes(ast.Constant):
+            if isinstance(node.value, str):
+                self.assertNotIn("%", node.value, (name, node.lineno))
+        self.assertEqual(nodes(ast.Pow), [])
 
 
 if __name__ == "__main__":
